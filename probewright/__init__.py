@@ -1,0 +1,1 @@
+"""Probewright: tests for circuits against broken lines, with papers."""
