@@ -1,7 +1,9 @@
 """Tests of what a file must keep to on its own: folder, size, characters,
-imports and names. The other rules of the language are checked by reading."""
+imports, names, methods and values. The other rules of the language are
+checked by reading."""
 
 import ast
+import builtins
 import pathlib
 import re
 import unittest
@@ -12,6 +14,24 @@ import probewright
 PACKAGE = pathlib.Path(probewright.__file__).parent
 FILES = sorted(path for path in PACKAGE.rglob("*") if "__pycache__" not in path.parts)
 LIBRARY = ("heapq", "math", "itertools", "collections")
+
+# What L8 allows of Python's own names outside of __main__.py.
+BUILTINS = set(
+    "len range enumerate zip min max sum abs sorted reversed int str bool bytes list tuple dict set frozenset "
+    "isinstance ord repr any all divmod pow getattr hasattr setattr iter next map Exception ValueError TypeError "
+    "KeyError IndexError LookupError ZeroDivisionError ArithmeticError OverflowError RuntimeError "
+    "NotImplementedError AttributeError StopIteration NotImplemented property staticmethod classmethod super".split())
+
+# What L25 allows of the methods of Python's own values.
+METHODS = set(
+    "append clear copy count endswith extend find get index insert isalnum isalpha isdigit islower isspace isupper "
+    "items join keys ljust lower lstrip partition pop remove replace reverse rfind rjust rpartition rsplit rstrip "
+    "setdefault split splitlines startswith strip update upper values zfill bit_length title capitalize swapcase "
+    "casefold center expandtabs removeprefix removesuffix rindex isascii isdecimal isnumeric istitle isidentifier "
+    "isprintable translate sort add discard".split())
+
+# What L17 bars everywhere.
+BARRED = set("register mro elements open input law version_info with_traceback add_note".split())
 
 
 def tree_of(path):
@@ -55,6 +75,50 @@ class Language(unittest.TestCase):
                         self.assertEqual(node.level, 0)
                         self.assertIn(node.module, modules.union(LIBRARY))
                         self.assertNotIn("*", [alias.name for alias in node.names])
+
+    def test_names(self):
+        for path in FILES:
+            for node in ast.walk(tree_of(path)):
+                names = []
+                if isinstance(node, ast.Name):
+                    names.append(node.id)
+                    if node.id in vars(builtins):
+                        with self.subTest(path=path.name, name=node.id):
+                            self.assertIn(node.id, BUILTINS)
+                            self.assertIsInstance(node.ctx, ast.Load)
+                elif isinstance(node, (ast.FunctionDef, ast.ClassDef)):
+                    names.append(node.name)
+                elif isinstance(node, ast.arg):
+                    names.append(node.arg)
+                    with self.subTest(path=path.name, name=node.arg):
+                        self.assertNotIn(node.arg, vars(builtins))
+                elif isinstance(node, ast.Attribute):
+                    names.append(node.attr)
+                elif isinstance(node, ast.keyword):
+                    names.append(node.arg)
+                with self.subTest(path=path.name, names=names):
+                    self.assertFalse(BARRED.intersection(names))
+
+    def test_methods(self):
+        own = {
+            node.name for path in FILES for kind in ast.walk(tree_of(path)) if isinstance(kind, ast.ClassDef)
+            for node in kind.body if isinstance(node, ast.FunctionDef)
+        }
+        for path in FILES:
+            for node in ast.walk(tree_of(path)):
+                if isinstance(node, ast.Call) and isinstance(node.func, ast.Attribute):
+                    with self.subTest(path=path.name, method=node.func.attr):
+                        self.assertIn(node.func.attr, METHODS.union(own))
+
+    def test_values_and_signs(self):
+        for path in FILES:
+            for node in ast.walk(tree_of(path)):
+                with self.subTest(path=path.name, line=getattr(node, "lineno", 0)):
+                    self.assertNotIsInstance(node, (ast.Div, ast.Global, ast.AsyncFunctionDef, ast.Await))
+                    if isinstance(node, ast.Constant):
+                        self.assertNotIsInstance(node.value, (float, complex))
+                        if isinstance(node.value, str):
+                            self.assertNotIn("%", node.value)
 
     def test_python_gives_no_warning(self):
         for path in FILES:

@@ -1,0 +1,67 @@
+"""Tests of the section "The interface": names, arguments and files."""
+
+import importlib
+import inspect
+import unittest
+
+FUNCTIONS = {
+    "words": ["is_integer(value, least, greatest)", "is_bit(value)", "is_name(value)", "are_bits(value, count)"],
+    "netlists": ["parse(text)", "text_of(name, circuit)"],
+    "breaks": ["is_break(circuit, value)", "check_version(circuit, version)", "stuck_breaks(circuit)",
+               "shorts(circuit)"],
+    "meaning": ["values(circuit, version, pattern)", "response(circuit, version, pattern)",
+                "parted(circuit, one, other, pattern)", "check_pattern(circuit, pattern)", "gate_value(kind, bits)"],
+    "many": ["words_of(circuit, version, patterns)", "responses(circuit, version, patterns)",
+             "parting(circuit, one, other, patterns)"],
+    "pairs": ["gate_mark(kind, marks)", "marks_of(circuit, one, other, partial)",
+              "sink_marks(circuit, one, other, partial)", "check_partial(circuit, partial)"],
+    "papers": ["check_paper(circuit, one, other, paper)", "size_of(paper)", "empty_partial(circuit)",
+               "with_bit(partial, index, bit)", "filled(circuit, partial, bit)", "agree(one, other)",
+               "together(one, other)"],
+}
+
+CLASSES = {
+    "circuits": {
+        "Circuit": ["__init__(self, inputs, registers, gates, outputs)", "lines(self)", "sources(self)",
+                    "sinks(self)", "above(self, line)", "parts(self)"],
+    },
+}
+
+
+def written(name, function):
+    return name + str(inspect.signature(function))
+
+
+class Interface(unittest.TestCase):
+    def test_functions(self):
+        for module, rows in FUNCTIONS.items():
+            found = importlib.import_module("probewright." + module)
+            for row in rows:
+                with self.subTest(module=module, row=row):
+                    name = row.partition("(")[0]
+                    function = getattr(found, name)
+                    self.assertEqual(written(name, function), row)
+                    self.assertEqual(function.__module__, "probewright." + module)
+
+    def test_classes(self):
+        for module, classes in CLASSES.items():
+            found = importlib.import_module("probewright." + module)
+            for name, rows in classes.items():
+                kind = getattr(found, name)
+                self.assertEqual(kind.__module__, "probewright." + module)
+                for row in rows:
+                    with self.subTest(kind=name, row=row):
+                        method = row.partition("(")[0]
+                        # In the class itself, not only in a base class.
+                        self.assertEqual(written(method, vars(kind)[method]), row)
+
+    def test_constants(self):
+        circuits = importlib.import_module("probewright.circuits")
+        pairs = importlib.import_module("probewright.pairs")
+        self.assertIs(type(circuits.KINDS), tuple)
+        self.assertIs(type(pairs.EQUAL), int)
+        self.assertIs(type(pairs.UNEQUAL), int)
+
+
+if __name__ == "__main__":
+    unittest.main()
