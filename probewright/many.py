@@ -9,12 +9,17 @@ from probewright.circuits import CONTRARY
 from probewright.meaning import check_pattern
 
 
-def _check(circuit, versions, patterns):
-    """Look at all versions ahead of all patterns."""
+def check_tried(circuit, versions, patterns):
+    """Raise BadBreak unless all versions are some, and then BadPattern unless all patterns are."""
     for version in versions:
         check_version(circuit, version)
     for pattern in patterns:
         check_pattern(circuit, pattern)
+
+
+def indexes_of(word):
+    """Return the ascending list of the indexes of the bits of a word that are 1."""
+    return [k for k in range(word.bit_length()) if word >> k & 1]
 
 
 def _gate_word(kind, words, full):
@@ -72,31 +77,63 @@ def _words(circuit, version, given, full):
     return found
 
 
-def _words_for(circuit, version, patterns):
-    """Do what `words_of` does, for arguments that have been checked."""
-    full = (1 << len(patterns)) - 1
-    return _words(circuit, version, _source_words(circuit, patterns), full)
+class Trial:
+    """Patterns that versions are tried with; the right circuit is tried once for all.
+
+    What its methods are passed is not checked.
+    """
+
+    def __init__(self, circuit, patterns):
+        self.circuit = circuit
+        self.many = len(patterns)
+        self.given = _source_words(circuit, patterns)
+        self.right = self.words(None)
+
+    def words(self, version):
+        """Return a dict from all lines of a version to their words."""
+        return _words(self.circuit, version, self.given, (1 << self.many) - 1)
+
+    def take(self, pattern):
+        """Take one more pattern, behind the others."""
+        for line, bit in zip(self.circuit.sources(), pattern):
+            self.given[line] |= bit << self.many
+        self.many += 1
+        self.right = self.words(None)
+
+    def responses(self, version):
+        """Return the list of the responses of a version."""
+        found = self.words(version)
+        sinks = [found[line] for line in self.circuit.sinks()]
+        return [tuple([word >> k & 1 for word in sinks]) for k in range(self.many)]
+
+    def showing(self, version):
+        """Return the word of the patterns that part a version from the right circuit."""
+        return _parting_word(self.circuit, self.right, self.words(version))
+
+
+def _parting_word(circuit, one, other):
+    """Return the word of the patterns for which a sink has unequal values."""
+    found = 0
+    for line in circuit.sinks():
+        found |= one[line] ^ other[line]
+    return found
 
 
 def words_of(circuit, version, patterns):
     """Return a dict from all lines of a version to their words for patterns."""
-    _check(circuit, [version], patterns)
-    return _words_for(circuit, version, patterns)
+    check_tried(circuit, [version], patterns)
+    return Trial(circuit, patterns).words(version)
 
 
 def responses(circuit, version, patterns):
     """Return the list of the responses of a version to patterns."""
-    words = words_of(circuit, version, patterns)
-    sinks = [words[line] for line in circuit.sinks()]
-    return [tuple([word >> k & 1 for word in sinks]) for k in range(len(patterns))]
+    check_tried(circuit, [version], patterns)
+    return Trial(circuit, patterns).responses(version)
 
 
 def parting(circuit, one, other, patterns):
     """Return the ascending indices of the patterns that part two versions."""
-    _check(circuit, [one, other], patterns)
-    first = _words_for(circuit, one, patterns)
-    second = _words_for(circuit, other, patterns)
-    parts = 0
-    for line in circuit.sinks():
-        parts |= first[line] ^ second[line]
-    return [k for k in range(len(patterns)) if parts >> k & 1]
+    check_tried(circuit, [one, other], patterns)
+    trial = Trial(circuit, patterns)
+    word = _parting_word(circuit, trial.words(one), trial.words(other))
+    return indexes_of(word)

@@ -59,7 +59,7 @@ def gate_mark(kind, marks):
     return _contrary(mark) if kind in CONTRARY else mark
 
 
-def _replaced(mark, side, bits):
+def replaced(mark, side, bits):
     """Replace one side of every pair by every one of the bits."""
     found = 0
     for pair in _PAIRS[mark]:
@@ -72,6 +72,13 @@ def _replaced(mark, side, bits):
     return found
 
 
+def short_bits(kind, one, other):
+    """Return the values of a short for the pair sets of its lines in the right circuit."""
+    mark = gate_mark(kind, [one, other])
+    # Two right circuits have equal pairs only, which are the numbers 0 and 3.
+    return [bit for bit in (0, 1) if 3 * bit in _PAIRS[mark]]
+
+
 def _forced(circuit, version, partial):
     """Return the lines that a version changes, with the values that they may have."""
     if version is None or version[0] == "pin":
@@ -80,9 +87,7 @@ def _forced(circuit, version, partial):
         return {version[1]: [version[2]]}
     right = plain_marks(circuit, None, None, partial)
     _, one, other, kind = version
-    mark = gate_mark(kind, [right[one], right[other]])
-    # Two right circuits have equal pairs only, which are the numbers 0 and 3.
-    bits = [bit for bit in (0, 1) if 3 * bit in _PAIRS[mark]]
+    bits = short_bits(kind, right[one], right[other])
     return {one: bits, other: bits}
 
 
@@ -90,7 +95,7 @@ def _line_mark(line, mark, forced):
     """Return the pair set of a line that would have `mark` if it were not changed."""
     for side in (0, 1):
         if line in forced[side]:
-            mark = _replaced(mark, side, forced[side][line])
+            mark = replaced(mark, side, forced[side][line])
     return mark
 
 
@@ -100,11 +105,12 @@ def _pin_marks(gate, found, versions):
     for side in (0, 1):
         version = versions[side]
         if version is not None and version[:2] == ("pin", gate[0]):
-            marks[version[2]] = _replaced(marks[version[2]], side, [version[3]])
+            marks[version[2]] = replaced(marks[version[2]], side, [version[3]])
     return marks
 
 
-def _source_mark(item):
+def source_mark(item):
+    """Return the pair set of a source that is 0, 1 or open."""
     if item is None:
         return EQUAL
     return 8 if item == 1 else 1
@@ -115,7 +121,7 @@ def plain_marks(circuit, one, other, partial):
     forced = (_forced(circuit, one, partial), _forced(circuit, other, partial))
     found = {}
     for line, item in zip(circuit.sources(), partial):
-        found[line] = _line_mark(line, _source_mark(item), forced)
+        found[line] = _line_mark(line, source_mark(item), forced)
     for gate in circuit.order:
         marks = _pin_marks(gate, found, (one, other))
         found[gate[0]] = _line_mark(gate[0], gate_mark(gate[1], marks), forced)

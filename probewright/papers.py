@@ -51,22 +51,30 @@ def _is_open(partial, index):
     return is_integer(index, 0, len(partial) - 1) and partial[index] is None
 
 
-def check_paper(circuit, one, other, paper):
-    """Raise BadPaper unless the paper is right for the two versions."""
-    check_version(circuit, one)
-    check_version(circuit, other)
+def check_leaves(paper, start, is_right):
+    """Raise BadPaper unless all leaves of a paper for a partial pattern are right.
+
+    `is_right` tells whether a leaf is right for the partial pattern at it.
+    """
     # Each case fills a source, so that this ends for a paper of any depth.
-    waiting = [(paper, empty_partial(circuit))]
+    waiting = [(paper, start)]
     while waiting:
         part, partial = waiting.pop()
         if _has_form(part, "leaf", 1):
-            if not _is_right_leaf(circuit, one, other, partial):
-                raise BadPaper("a sink may have an unequal pair")
+            if not is_right(partial):
+                raise BadPaper("a leaf is not right")
         elif _has_form(part, "case", 4) and _is_open(partial, part[1]):
             waiting.append((part[3], with_bit(partial, part[1], 1)))
             waiting.append((part[2], with_bit(partial, part[1], 0)))
         else:
             raise BadPaper("neither a leaf nor a case of an open source")
+
+
+def check_paper(circuit, one, other, paper):
+    """Raise BadPaper unless the paper is right for the two versions."""
+    check_version(circuit, one)
+    check_version(circuit, other)
+    check_leaves(paper, empty_partial(circuit), lambda partial: _is_right_leaf(circuit, one, other, partial))
 
 
 def size_of(paper):

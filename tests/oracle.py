@@ -1,6 +1,7 @@
 """What the tests compare the program with: the rules of points 201 and 302,
 asked line by line from the sinks upwards, with plain tuples and sets."""
 
+import functools
 import itertools
 
 VALUE = {
@@ -87,6 +88,30 @@ def patterns_of(parts):
 
 def partials_of(parts):
     return list(itertools.product((0, 1, None), repeat=len(sources_of(parts))))
+
+
+@functools.lru_cache(maxsize=None)
+def responses(parts, version):
+    """Return the responses of a version to all patterns."""
+    return tuple(response(parts, version, pattern) for pattern in patterns_of(parts))
+
+
+def alike(parts, one, other):
+    """Tell whether no pattern parts two versions (point 400)."""
+    return responses(parts, one) == responses(parts, other)
+
+
+def parting(parts, one, other):
+    """Return the list of all patterns that part two versions."""
+    return [
+        pattern for pattern, left, right in zip(patterns_of(parts), responses(parts, one), responses(parts, other))
+        if left != right
+    ]
+
+
+def fills(pattern, partial):
+    """Tell whether a pattern fills a partial pattern (point 300)."""
+    return all(item is None or item == bit for item, bit in zip(partial, pattern))
 
 
 def filling(partial):

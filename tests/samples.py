@@ -65,9 +65,18 @@ ONLY_CONSTANTS = ((), (), (("h", "high", ()), ("l", "low", ()), ("n", "nand", ("
 
 NOTHING = ((), (), (), ())
 
-ALL = (HALF, TWO_WAYS, TEN, WIDE, NARROW, NO_GATES, ONLY_CONSTANTS, NOTHING)
+# Lines that are called like kinds, versions and questions.
+NAMED = (
+    ("or", "right", "and"),
+    (("ask", "short"),),
+    (("stem", "nand", ("and", "or")), ("pin", "xor", ("stem", "right", "ask")), ("short", "or", ("pin", "stem", "or")),
+     ("late", "and", ("ask", "and"))),
+    ("pin", "short", "late"),
+)
 
-SMALL = (HALF, TWO_WAYS, WIDE, NARROW, ONLY_CONSTANTS, NOTHING)
+ALL = (HALF, TWO_WAYS, TEN, WIDE, NARROW, NO_GATES, ONLY_CONSTANTS, NOTHING, NAMED)
+
+SMALL = (HALF, TWO_WAYS, WIDE, NARROW, ONLY_CONSTANTS, NOTHING, NAMED)
 
 # Values of other kinds, that are in no way a part, a break or a paper. ANY is
 # equal to everything.

@@ -18,12 +18,40 @@ FUNCTIONS = {
     "papers": ["check_paper(circuit, one, other, paper)", "size_of(paper)", "empty_partial(circuit)",
                "with_bit(partial, index, bit)", "filled(circuit, partial, bit)", "agree(one, other)",
                "together(one, other)"],
+    "generator": ["answer(circuit, one, other)"],
+    "classes": ["uses(circuit)", "joined_classes(circuit)", "representatives(circuit)",
+                "exact_classes(circuit, versions)", "check_classes(circuit, versions, finding)"],
+    "testsets": ["table(circuit, breaks, patterns)", "drop(circuit, breaks, patterns)", "build(circuit, breaks)",
+                 "complete(circuit, breaks, patterns)", "is_finished(circuit, breaks, patterns, papers)",
+                 "merge(partials)", "thin(circuit, breaks, patterns)", "smallest(rows, count)"],
+    "chain": ["chains(circuit, count)", "is_step(circuit, count, value)",
+              "run(circuit, version, count, start, program)", "program_of(circuit, count, patterns)",
+              "read_back(circuit, count, log)"],
+    "signatures": ["added(one, other)", "hidden(press, one, other)", "lost(circuit, breaks, patterns, press)"],
+    "findings": ["allowed(circuit, versions, patterns, observed)", "groups(circuit, versions, patterns)",
+                 "next_pattern(circuit, versions)"],
+    "late": ["is_late(circuit, value)", "late_response(circuit, late, first, second)",
+             "shows_late(circuit, late, first, second)", "reach(circuit, line, bit, partial)",
+             "check_never(circuit, line, bit, partial, paper)", "late_answer(circuit, late)",
+             "check_late_paper(circuit, late, found)"],
+    "jobs": ["run_job(text)", "version_text(version)", "bits_text(bits)"],
 }
 
 CLASSES = {
     "circuits": {
         "Circuit": ["__init__(self, inputs, registers, gates, outputs)", "lines(self)", "sources(self)",
                     "sinks(self)", "above(self, line)", "parts(self)"],
+    },
+    "chain": {
+        "Tester": ["__init__(self, circuit, version, count, start)", "stored(self)", "shift(self, bits)",
+                   "look(self, inputs)", "clock(self, inputs)"],
+    },
+    "signatures": {
+        "Press": ["__init__(self, width, taps)", "step(self, state, word)", "fold(self, response)",
+                  "press(self, words)", "signature(self, table)", "blind(self, count)", "period(self)"],
+    },
+    "findings": {
+        "Finder": ["__init__(self, circuit, versions)", "ask(self)", "tell(self, pattern, row)", "versions(self)"],
     },
 }
 
@@ -61,6 +89,8 @@ class Interface(unittest.TestCase):
         self.assertIs(type(circuits.KINDS), tuple)
         self.assertIs(type(pairs.EQUAL), int)
         self.assertIs(type(pairs.UNEQUAL), int)
+        for module, name in (("testsets", "MOST_CHOICES"), ("signatures", "MOST_PERIOD")):
+            self.assertEqual(vars(importlib.import_module("probewright." + module))[name], 16)
 
 
 if __name__ == "__main__":

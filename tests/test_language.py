@@ -38,6 +38,11 @@ def tree_of(path):
     return ast.parse(path.read_text(encoding="utf-8"))
 
 
+def is_call(node, names):
+    """Tell whether a node calls one of some names."""
+    return isinstance(node, ast.Call) and isinstance(node.func, ast.Name) and node.func.id in names
+
+
 class Language(unittest.TestCase):
     def test_the_folder_holds_plain_files_only(self):
         self.assertIn(PACKAGE / "__init__.py", FILES)
@@ -119,6 +124,122 @@ class Language(unittest.TestCase):
                         self.assertNotIsInstance(node.value, (float, complex))
                         if isinstance(node.value, str):
                             self.assertNotIn("%", node.value)
+
+    def test_what_the_package_does_without(self):
+        # Most of the rules are about these; none of them is used.
+        unused = (ast.GeneratorExp, ast.Yield, ast.YieldFrom, ast.With, ast.Match, ast.NamedExpr, ast.AnnAssign,
+                  ast.Assert, ast.Delete, ast.Nonlocal)
+        for path in FILES:
+            for node in ast.walk(tree_of(path)):
+                with self.subTest(path=path.name, line=getattr(node, "lineno", 0)):
+                    self.assertNotIsInstance(node, unused)
+                    if isinstance(node, (ast.FunctionDef, ast.ClassDef)):
+                        self.assertEqual(node.decorator_list, [])
+                    if isinstance(node, ast.FunctionDef):
+                        rest = node.args
+                        self.assertEqual(
+                            (rest.vararg, rest.kwarg, rest.kwonlyargs, rest.posonlyargs, rest.defaults),
+                            (None, None, [], [], []))
+                        if node.name.startswith("__"):
+                            self.assertEqual(node.name, "__init__")
+                            self.assertFalse(any(isinstance(part, ast.Return) for part in ast.walk(node)))
+                    if isinstance(node, ast.Try):
+                        self.assertEqual(node.finalbody, [])
+                        for handler in node.handlers:
+                            # Own errors only.
+                            self.assertNotIn(handler.type.id, vars(builtins))
+
+    def test_what_is_iterated_at_once(self):
+        names = ("zip", "enumerate", "reversed", "range")
+        takers = ("list", "tuple", "dict", "sorted", "sum", "any", "all", "enumerate", "zip", "min", "max", "combinations")
+        for path in FILES:
+            tree = tree_of(path)
+            allowed = set()
+            for node in ast.walk(tree):
+                if isinstance(node, (ast.For, ast.comprehension)):
+                    allowed.add(node.iter)
+                if isinstance(node, ast.Call) and isinstance(node.func, ast.Name) and node.args:
+                    if node.func.id in takers or node.func.id in ("reversed", "len") and is_call(node.args[0], ("range",)):
+                        allowed.add(node.args[0])
+            for node in ast.walk(tree):
+                views = isinstance(node, ast.Call) and isinstance(node.func, ast.Attribute) \
+                    and node.func.attr in ("items", "keys", "values")
+                if is_call(node, names) or views:
+                    with self.subTest(path=path.name, line=node.lineno):
+                        self.assertIn(node, allowed)
+
+    def test_sets(self):
+        for path in FILES:
+            tree = tree_of(path)
+            allowed = set()
+            for node in ast.walk(tree):
+                if is_call(node, ("sorted", "len")) and not node.keywords:
+                    allowed.add(node.args[0])
+                if isinstance(node, ast.Assign) and isinstance(node.targets[0], ast.Name):
+                    allowed.add(node.value)
+            for node in ast.walk(tree):
+                if is_call(node, ("set",)) or isinstance(node, (ast.Set, ast.SetComp)):
+                    with self.subTest(path=path.name, line=node.lineno):
+                        self.assertIn(node, allowed)
+
+    def test_lambdas_stand_on_lines_of_their_own(self):
+        for path in FILES:
+            lines = [node.lineno for node in ast.walk(tree_of(path)) if isinstance(node, ast.Lambda)]
+            self.assertEqual(len(lines), len(set(lines)))
+
+    def test_no_name_is_a_method_and_an_attribute(self):
+        methods, attributes = set(), set()
+        for path in FILES:
+            for kind in ast.walk(tree_of(path)):
+                if isinstance(kind, ast.ClassDef):
+                    methods.update(node.name for node in kind.body if isinstance(node, ast.FunctionDef))
+                if isinstance(kind, ast.Attribute) and isinstance(kind.ctx, ast.Store):
+                    attributes.add(kind.attr)
+        self.assertEqual(methods & attributes, set())
+        # What a stored set is asked to do is no method of a class.
+        self.assertEqual(methods & {"add", "discard", "sort"}, set())
+        for name in attributes:
+            for value in ("", 0, [], {}, set(), b""):
+                self.assertFalse(hasattr(value, name) and name not in ("count", "index"), name)
+
+    def test_no_two_files_import_from_each_other(self):
+        imported = {
+            "probewright." + path.stem: [
+                node.module for node in tree_of(path).body
+                if isinstance(node, ast.ImportFrom) and node.module.startswith("probewright.")]
+            for path in FILES}
+        left = dict(imported)
+        while left:
+            free = [name for name in left if not any(other in left for other in left[name])]
+            self.assertTrue(free, left)
+            for name in free:
+                del left[name]
+
+    def test_imports_name_the_file_that_defines(self):
+        defined = {
+            "probewright." + path.stem: {
+                node.name for node in tree_of(path).body if isinstance(node, (ast.FunctionDef, ast.ClassDef))}
+            | {target.id for node in tree_of(path).body if isinstance(node, ast.Assign) for target in node.targets}
+            for path in FILES}
+        for path in FILES:
+            tree = tree_of(path)
+            bound = set()
+            for node in tree.body:
+                if isinstance(node, ast.ImportFrom):
+                    bound.update(alias.name for alias in node.names)
+                    if node.module in defined:
+                        for alias in node.names:
+                            self.assertIn(alias.name, defined[node.module])
+            bound.update(node.name for node in tree.body if isinstance(node, ast.ClassDef))
+            for node in ast.walk(tree):
+                names = []
+                if isinstance(node, ast.Name) and isinstance(node.ctx, ast.Store):
+                    names.append(node.id)
+                if isinstance(node, ast.arg):
+                    names.append(node.arg)
+                for name in names:
+                    with self.subTest(path=path.name, name=name):
+                        self.assertNotIn(name, bound)
 
     def test_python_gives_no_warning(self):
         for path in FILES:
